@@ -1,0 +1,1 @@
+"""Straight ways for ever, on surfaces of glued squares."""
