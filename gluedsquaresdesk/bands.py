@@ -1,9 +1,11 @@
 """Surfaces sheared, turned and laid in a direction, and the bands that are found there."""
 
+from gluedsquaresdesk.directions import directions_up_to
 from gluedsquaresdesk.surface import Surface, backward, once_round, rings
 
-GREATEST = 20
 NO_ROW = -1
+MOST_BANDS = 6
+FAR_ENOUGH = 5
 
 
 def sheared(surface):
@@ -28,20 +30,6 @@ def sheared_back_often(surface, many):
     return lying
 
 
-def common_part(one, other):
-    while other != 0:
-        rest = one % other
-        one = other
-        other = rest
-    return one
-
-
-def is_direction(p, q):
-    if abs(p) > GREATEST or abs(q) > GREATEST:
-        return False
-    return common_part(abs(p), abs(q)) == 1
-
-
 def laid(surface, p, q):
     lying = surface
     while q != 0:
@@ -57,6 +45,11 @@ def laid(surface, p, q):
 
 def is_smooth(row, around):
     return all([around[square] == square for square in row])
+
+
+def tops(surface):
+    around = once_round(surface)
+    return [1 if is_smooth(row, around) else 0 for row in rings(surface.eastern)]
 
 
 def row_places(rows, many):
@@ -104,3 +97,23 @@ def bands_to_east(surface):
 
 def bands_in(surface, p, q):
     return bands_to_east(laid(surface, p, q))
+
+
+def longest_in(surface, p, q):
+    return max([band[0] for band in bands_in(surface, p, q)])
+
+
+def first_with_one_band(surface):
+    for direction in directions_up_to(FAR_ENOUGH):
+        if len(bands_in(surface, direction[0], direction[1])) == 1:
+            return direction
+    return None
+
+
+# There are never more bands than squares, so six places hold whatever comes.
+def directions_by_bands(surface, greatest):
+    many = [0] * MOST_BANDS
+    for direction in directions_up_to(greatest):
+        bands = bands_in(surface, direction[0], direction[1])
+        many[len(bands) - 1] += 1
+    return many

@@ -1,14 +1,19 @@
 """The calls on one object, answered one behind another."""
 
-from gluedsquaresdesk.bands import bands_in, is_direction
-from gluedsquaresdesk.reading import BANDS, BEGIN, COLUMNS, CORNERS, GLUE, HOLES, NAME, ROWS, STATE, cut_into_calls
+from gluedsquaresdesk.bands import bands_in, directions_by_bands, first_with_one_band, laid, longest_in
+from gluedsquaresdesk.bands import sheared, sheared_back, tops, turned
+from gluedsquaresdesk.directions import is_direction
+from gluedsquaresdesk.reading import BANDS, BEGIN, COLUMNS, CORNERS, COUNTS, GLUE, HOLES, LAY, LONGEST, NAME, ONE
+from gluedsquaresdesk.reading import ROWS, SHEAR, TOPS, TURN, UNSHEAR, cut_into_calls
 from gluedsquaresdesk.surface import Surface, corner_turns, hangs_together, how_many_holes, name_of, one_row
 from gluedsquaresdesk.surface import ring_lengths, tells_all_once
 
 NOT_BEGUN = -11
 NOT_RIGHT = -22
 NOT_TOGETHER = -33
+NONE_THERE = -33
 MOST_SQUARES = 6
+MOST_COUNTED = 4
 
 
 class Desk:
@@ -38,14 +43,41 @@ def glue(desk, eastern, northern):
     return [len(corner_turns(glued))]
 
 
+def change(desk, changed):
+    desk.surface = changed
+    return [0]
+
+
 def tell_bands(surface, p, q):
-    if not is_direction(p, q):
-        return [NOT_RIGHT]
     found = bands_in(surface, p, q)
     told = [len(found)]
     for band in found:
         told.extend([band[0], band[1]])
     return told
+
+
+def answer_direction(desk, call, p, q):
+    if not is_direction(p, q):
+        return [NOT_RIGHT]
+    if call == LAY:
+        return change(desk, laid(desk.surface, p, q))
+    if call == LONGEST:
+        return [longest_in(desk.surface, p, q)]
+    return tell_bands(desk.surface, p, q)
+
+
+def tell_one(surface):
+    direction = first_with_one_band(surface)
+    if direction is None:
+        return [NONE_THERE]
+    return [0, direction[0], direction[1]]
+
+
+def tell_counts(surface, greatest):
+    if greatest < 1 or greatest > MOST_COUNTED:
+        return [NOT_RIGHT]
+    many = directions_by_bands(surface, greatest)
+    return [sum(many)] + many
 
 
 def tell(surface, call):
@@ -59,9 +91,28 @@ def tell(surface, call):
         return counted(ring_lengths(surface.northern))
     if call == NAME:
         return counted(name_of(surface))
-    if call == STATE:
-        return [len(surface.eastern)] + surface.eastern + surface.northern
-    raise NotImplementedError(f"call {call}")
+    if call == ONE:
+        return tell_one(surface)
+    if call == TOPS:
+        return counted(tops(surface))
+    # Nothing but the named calls is handed in, so what is left here is state.
+    return [len(surface.eastern)] + surface.eastern + surface.northern
+
+
+def answer_begun(desk, call, numbers, lists):
+    if call == GLUE:
+        return glue(desk, lists[0], lists[1])
+    if call in (BANDS, LONGEST, LAY):
+        return answer_direction(desk, call, numbers[0], numbers[1])
+    if call == COUNTS:
+        return tell_counts(desk.surface, numbers[0])
+    if call == SHEAR:
+        return change(desk, sheared(desk.surface))
+    if call == UNSHEAR:
+        return change(desk, sheared_back(desk.surface))
+    if call == TURN:
+        return change(desk, turned(desk.surface))
+    return tell(desk.surface, call)
 
 
 def answer(desk, call, numbers, lists):
@@ -69,11 +120,7 @@ def answer(desk, call, numbers, lists):
         return begin(desk, numbers[0])
     if desk.surface is None:
         return [NOT_BEGUN]
-    if call == GLUE:
-        return glue(desk, lists[0], lists[1])
-    if call == BANDS:
-        return tell_bands(desk.surface, numbers[0], numbers[1])
-    return tell(desk.surface, call)
+    return answer_begun(desk, call, numbers, lists)
 
 
 def answers(calls):

@@ -1,5 +1,6 @@
 """Calls written by name, and answers cut apart again."""
 
+import random
 from itertools import permutations
 from math import gcd
 
@@ -9,6 +10,10 @@ NUMBERS = {
     "begin": 0, "glue": 1, "corners": 2, "holes": 3, "rows": 4, "columns": 5, "name": 6, "state": 7, "bands": 8,
     "longest": 9, "one": 10, "counts": 11, "tops": 12, "shear": 13, "unshear": 14, "turn": 15, "lay": 16,
 }
+
+L_SHAPED = ([1, 0, 2], [2, 1, 0])
+SMOOTH_ABOVE_ROUGH = ([1, 0, 2, 3], [2, 1, 3, 0])
+HIGH_AS_ALL = ([1, 2, 0, 4, 5, 3], [3, 4, 5, 1, 0, 2])
 
 
 def written(*calls):
@@ -61,6 +66,16 @@ def all_glued(many):
         for northern in permutations(range(many)):
             if hang_together(eastern, northern):
                 yield list(eastern), list(northern)
+
+
+def some_glued(many, how_many, seed):
+    chosen = random.Random(seed)
+    found = []
+    while len(found) < how_many:
+        eastern, northern = chosen.sample(range(many), many), chosen.sample(range(many), many)
+        if hang_together(eastern, northern):
+            found.append((eastern, northern))
+    return found
 
 
 def directions(greatest):

@@ -1,14 +1,10 @@
-import random
 import unittest
 
 from gluedsquaresdesk.bands import laid, sheared, sheared_back, turned
 from gluedsquaresdesk.surface import Surface
-from tests.calling import all_glued, ask, ask_glued, directions, hang_together
+from tests.calling import HIGH_AS_ALL, L_SHAPED, SMOOTH_ABOVE_ROUGH
+from tests.calling import all_glued, ask, ask_glued, directions, some_glued
 from tests.walking import walked_bands
-
-L_SHAPED = ([1, 0, 2], [2, 1, 0])
-SMOOTH_ABOVE_ROUGH = ([1, 0, 2, 3], [2, 1, 3, 0])
-HIGH_AS_ALL = ([1, 2, 0, 4, 5, 3], [3, 4, 5, 1, 0, 2])
 
 
 def bands(glued, p, q):
@@ -21,16 +17,6 @@ def all_bands(glued, wanted):
     for at in range(0, len(wanted), 38):
         told += ask_glued(glued[0], glued[1], *[("bands", p, q) for p, q in wanted[at:at + 38]])
     return told
-
-
-def some_glued(many, how_many, seed):
-    chosen = random.Random(seed)
-    found = []
-    while len(found) < how_many:
-        eastern, northern = chosen.sample(range(many), many), chosen.sample(range(many), many)
-        if hang_together(eastern, northern):
-            found.append((eastern, northern))
-    return found
 
 
 class ToTheEast(unittest.TestCase):

@@ -84,6 +84,27 @@ class Files(unittest.TestCase):
                     bound.append(node.name)
             self.assertEqual(len(bound), len(set(bound)), path)
 
+    def test_locals_are_not_called_like_imports_or_classes(self):
+        for path in files():
+            tree = ast.parse(path.read_text(encoding="utf-8"))
+            taken = [alias.name for node in tree.body if isinstance(node, ast.ImportFrom) for alias in node.names]
+            taken += [node.name for node in tree.body if isinstance(node, ast.ClassDef)]
+            for node in ast.walk(tree):
+                if isinstance(node, (ast.arg, ast.Name)):
+                    for bound in bound_names(node):
+                        self.assertNotIn(bound, taken, path)
+
+    def test_no_two_files_draw_from_one_another(self):
+        drawn = {}
+        for path in files():
+            body = ast.parse(path.read_text(encoding="utf-8")).body
+            drawn[path.stem] = {node.module.split(".")[1] for node in body if isinstance(node, ast.ImportFrom)}
+        while drawn:
+            free = [stem for stem in drawn if not drawn[stem] & set(drawn)]
+            self.assertNotEqual(free, [], drawn)
+            for stem in free:
+                drawn.pop(stem)
+
     def test_init_draws_from_nothing(self):
         self.assertEqual(len(ast.parse((PACKAGE / "__init__.py").read_text()).body), 1)
 
@@ -98,6 +119,10 @@ class Nodes(unittest.TestCase):
                 self.assertEqual(len(node.targets), 1)
             if isinstance(node, ast.Constant):
                 self.assertIsInstance(node.value, (int, str, bool, type(None)))
+                self.assertNotIn("%", str(node.value))
+            if isinstance(node, (ast.ListComp, ast.DictComp)):
+                self.assertEqual(len(node.generators), 1)
+                self.assertLessEqual(len(node.generators[0].ifs), 1)
 
     def test_imports(self):
         for name, node in nodes():
